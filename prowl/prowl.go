@@ -1,0 +1,72 @@
+// Package prowl: inputs, tried on a program: see DOC.md.
+package prowl
+
+import (
+	"prowl/api"
+	"prowl/machine"
+	"prowl/program"
+)
+
+// Check tells whether bytes are a program (P3).
+func Check(code []byte) (int, api.Errno) {
+	n, ok := program.Check(code)
+	if !ok {
+		return n, api.ErrCode
+	}
+	return n, api.OK
+}
+
+// Run lets a program run (P4).
+func Run(code []byte, input string, fuel int) (api.Outcome, []byte, api.Errno) {
+	if !program.CanRun(code) {
+		return api.Outcome{}, nil, api.ErrCode
+	}
+	if len(input) > api.MaxInput || fuel < 0 || fuel > api.MaxFuel {
+		return api.Outcome{}, nil, api.ErrArg
+	}
+	outcome, cover := machine.Run(code, program.Entries(code), input, fuel)
+	return outcome, cover, api.OK
+}
+
+// Probe puts probes into a program (P5).
+func Probe(code []byte) ([]byte, []int, api.Errno) { return nil, nil, api.OK }
+
+// Mutant tells a change of an input (P6).
+func Mutant(input string, n int) (string, bool) { return "", false }
+
+// Wild tells a wild change of an input (P7).
+func Wild(input string, other string, seed uint64) (string, uint64) { return "", 0 }
+
+// Prowl is one.
+type Prowl struct{}
+
+// New begins a prowl (P8).
+func New(code []byte, first []string, seed uint64, fuel int) (*Prowl, api.Errno) {
+	return nil, api.OK
+}
+
+// Go tries so many inputs (P9).
+func (p *Prowl) Go(tries int) api.Errno { return api.OK }
+
+// Status tells how far it is (P10).
+func (p *Prowl) Status() api.Status { return api.Status{} }
+
+// Kept tells which inputs are kept (P10).
+func (p *Prowl) Kept() []string { return nil }
+
+// Crashes tells which faults were found (P10).
+func (p *Prowl) Crashes() []api.Crash { return nil }
+
+// Seen tells what was seen (P10).
+func (p *Prowl) Seen() []byte { return nil }
+
+// Favoured tells which inputs are enough (P11).
+func (p *Prowl) Favoured() []int { return nil }
+
+// Log tells what was kept, as a text (P12).
+func (p *Prowl) Log() string { return "" }
+
+// Resume goes on from a log (P13).
+func Resume(code []byte, log string, seed uint64, fuel int) (*Prowl, int, api.Errno) {
+	return nil, 0, api.OK
+}
