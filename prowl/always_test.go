@@ -4,6 +4,7 @@ import (
 	"bytes"
 	"math"
 	"math/rand"
+	"slices"
 	"strings"
 	"testing"
 
@@ -26,6 +27,9 @@ func TestCallsEnd(t *testing.T) {
 		}
 		if outcome, cover, err := prowl.Run(code, chanceInput(chance), chance.Intn(501)); err != api.OK && (outcome != (api.Outcome{}) || len(cover) != 0) {
 			t.Fatalf("Run(%v) = %#v, %v with the error %d", code, outcome, cover, err)
+		}
+		if probed, from, err := prowl.Probe(code); err != api.OK && (err != api.ErrCode || len(probed) != 0 || len(from) != 0) {
+			t.Fatalf("Probe(%v) = %v, %v with the error %d", code, probed, from, err)
 		}
 	}
 	for _, fuel := range []int{math.MinInt, -1, api.MaxFuel + 1, math.MaxInt} {
@@ -64,6 +68,7 @@ func TestNothingChanged(t *testing.T) {
 		prowl.Check(lent[:len(code)])
 		prowl.Run(lent[:len(code)], "xyz", 100)
 		prowl.Run(lent[:len(code)], "xyz", -1)
+		prowl.Probe(lent[:len(code)])
 		if !bytes.Equal(lent, before) {
 			t.Errorf("%v: what was handed in is %v then", before[:len(code)], lent)
 		}
@@ -90,6 +95,40 @@ func TestAnswersAreNew(t *testing.T) {
 		for i := range room {
 			if room[i] != 99 {
 				t.Errorf("Run(%v) writes to what it answered earlier", code)
+			}
+		}
+	}
+}
+
+// P2: both lists of Probe are the caller's, with their spare room: they are no part of the code, nor of a later answer.
+func TestProbesAreNew(t *testing.T) {
+	for _, code := range [][]byte{example, {stop}, {jump, 0}, repeat(api.MaxCode, stop)} {
+		lent := bytes.Clone(code)
+		probed, from, _ := prowl.Probe(lent)
+		want, places := bytes.Clone(probed), slices.Clone(from)
+		room, spare := probed[:cap(probed)], from[:cap(from)]
+		for i := range room {
+			room[i] = 99
+		}
+		for i := range spare {
+			spare[i] = 99
+		}
+		if !bytes.Equal(lent, code) {
+			t.Errorf("the code is %v then, it was %v", lent, code)
+		}
+		wantProbed(t, lent, want, places)
+		for i := range lent {
+			lent[i] = stop
+		}
+		prowl.Probe(lent)
+		for i := range room {
+			if room[i] != 99 {
+				t.Errorf("Probe(%v) writes to what it answered earlier", code)
+			}
+		}
+		for i := range spare {
+			if spare[i] != 99 {
+				t.Errorf("Probe(%v) writes to the places that it answered earlier", code)
 			}
 		}
 	}

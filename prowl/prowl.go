@@ -29,7 +29,13 @@ func Run(code []byte, input string, fuel int) (api.Outcome, []byte, api.Errno) {
 }
 
 // Probe puts probes into a program (P5).
-func Probe(code []byte) ([]byte, []int, api.Errno) { return nil, nil, api.OK }
+func Probe(code []byte) ([]byte, []int, api.Errno) {
+	if _, ok := program.Check(code); !ok {
+		return nil, nil, api.ErrCode
+	}
+	probed, from := program.WithProbes(code)
+	return probed, from, api.OK
+}
 
 // Mutant tells a change of an input (P6).
 func Mutant(input string, n int) (string, bool) { return "", false }
