@@ -58,6 +58,51 @@ func TestRunsEnd(t *testing.T) {
 	}
 }
 
+// P1: texts and numbers of all kinds: both changes end, and have nothing beside a refusal.
+func TestChangesEnd(t *testing.T) {
+	chance := rand.New(rand.NewSource(3))
+	for range 20000 {
+		input := strings.Repeat(chanceInput(chance), 1+chance.Intn(2))
+		other := strings.Repeat(chanceInput(chance), 1+chance.Intn(2))
+		for _, n := range []int{chance.Intn(800), int(chance.Uint64()), -chance.Intn(800)} {
+			if text, ok := prowl.Mutant(input, n); !ok && text != "" || len(text) > api.MaxInput || ok && n < 0 {
+				t.Fatalf("Mutant(%q, %d) = %q, %v", input, n, text, ok)
+			}
+		}
+		seed := chance.Uint64()
+		text, next := prowl.Wild(input, other, seed)
+		refused := len(input) > api.MaxInput || len(other) > api.MaxInput
+		if len(text) > api.MaxInput || refused && text != "" || refused != (next == seed) {
+			t.Fatalf("Wild(%q, %q, %d) = %q, %d", input, other, seed, text, next)
+		}
+	}
+}
+
+// P2: what both changes answer hangs on their arguments alone, not on the calls ahead of them.
+func TestChangesHangOnArguments(t *testing.T) {
+	inputs := []string{"", "a", "abc", strings.Repeat("q", api.MaxInput), strings.Repeat("q", api.MaxInput+1)}
+	type answer struct {
+		mutant, wild string
+		ok           bool
+		next         uint64
+	}
+	ask := func(i int) (a answer) {
+		input, other := inputs[i%len(inputs)], inputs[i/len(inputs)%len(inputs)]
+		a.mutant, a.ok = prowl.Mutant(input, i)
+		a.wild, a.next = prowl.Wild(input, other, uint64(i))
+		return a
+	}
+	var first [1000]answer
+	for i := range first {
+		first[i] = ask(i)
+	}
+	for i := len(first) - 1; i >= 0; i-- {
+		if again := ask(i); again != first[i] {
+			t.Fatalf("the answers of %d are %v, at first %v", i, again, first[i])
+		}
+	}
+}
+
 // P2: what is handed in stays as it is, with its spare room.
 func TestNothingChanged(t *testing.T) {
 	for _, code := range [][]byte{

@@ -3,6 +3,8 @@ package prowl
 
 import (
 	"prowl/api"
+	"prowl/chance"
+	"prowl/changes"
 	"prowl/machine"
 	"prowl/program"
 )
@@ -38,10 +40,22 @@ func Probe(code []byte) ([]byte, []int, api.Errno) {
 }
 
 // Mutant tells a change of an input (P6).
-func Mutant(input string, n int) (string, bool) { return "", false }
+func Mutant(input string, n int) (string, bool) {
+	if len(input) > api.MaxInput {
+		return "", false
+	}
+	return changes.Mutant(input, n)
+}
 
 // Wild tells a wild change of an input (P7).
-func Wild(input string, other string, seed uint64) (string, uint64) { return "", 0 }
+func Wild(input string, other string, seed uint64) (string, uint64) {
+	if len(input) > api.MaxInput || len(other) > api.MaxInput {
+		return "", seed
+	}
+	drawn := chance.Seed(seed)
+	text := changes.Wild(input, other, &drawn)
+	return text, uint64(drawn)
+}
 
 // Prowl is one.
 type Prowl struct{}
