@@ -33,6 +33,15 @@ func Mutant(text string, n int) (string, bool) {
 	return "", false
 }
 
+// Mutants tells how many small changes a text has.
+func Mutants(text string) int {
+	many := 0
+	for _, k := range kinds(len(text)) {
+		many += k.many
+	}
+	return many
+}
+
 // kinds tells the kinds of change of a text of so many bytes, in their order.
 func kinds(length int) []kind {
 	doubled := length
